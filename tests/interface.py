@@ -9,6 +9,18 @@ FUNCTIONS = {
     "lines": ["shown_what(what)", "shown_version(version)", "shown_deed(deed)", "shown_book(book)"],
     "words": ["index(view)", "spots_of(view, word)"],
     "spotchecker": ["lets_spots(view, word, thing)"],
+    "whats": ["is_what(thing)", "is_deed(thing)"],
+    "books": ["is_book(thing)", "lets_book(thing)", "deed_at(book, key)", "docs_of(book)", "deeds_of(book, doc)",
+              "both_books(one, other)"],
+    "versions": ["version_of(book)", "has_key(version, key)", "either(one, other)", "both(one, other)",
+                 "has_all(one, other)", "is_closed(book, version)", "book_at(book, version)",
+                 "closed_over(book, version)"],
+    "gaps": ["gap_of(book, version)"],
+    "gapchecker": ["lets_gap(book, version, thing)"],
+    "making": ["made(book, what, *, hand)"],
+    "letters": ["is_letter(thing)", "lacking(book, version)"],
+    "readings": ["read_what(text, *, line=0)", "read_version(text, *, line=0)", "read_deed(text, *, line=0)",
+                 "read_book(text)"],
 }
 
 CLASSES = {
@@ -17,5 +29,11 @@ CLASSES = {
         "NoPaper": ["__init__(self, word, at)"], "NoDeed": ["__init__(self, word)"],
         "NoKey": ["__init__(self, key)"], "NoCopy": ["__init__(self, hand)"], "NoBack": ["__init__(self, times)"],
         "NoText": ["__init__(self, line, word)"], "NoLine": ["__init__(self, line)"],
+    },
+    "copies": {
+        "Copy": ["__init__(self, hand)", "take(self, deed)", "take_all(self, deeds)", "make(self, what)",
+                 "whose(self)", "book(self)", "all_keys(self)", "version(self)", "waiting(self)", "has(self, key)",
+                 "deed(self, key)", "write(self, *, to, most=12)", "read(self, letter)", "heard(self, *, of)",
+                 "__len__(self)", "__eq__(self, other)"],
     },
 }
