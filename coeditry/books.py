@@ -90,6 +90,15 @@ def knowing_fault(table, deed):
     return None
 
 
+def deed_fault(table, deed):
+    """Why the DEED can't stand beside those of the table: a word, or None."""
+    if not is_own(deed):
+        return "own"
+    if not all([_has_first(table, hand, many) for hand, many in knew_of(deed)]):
+        return "lacks"
+    return knowing_fault(table, deed)
+
+
 def _book_fault(thing):
     """Why a thing is no BOOK: a word, or None where it is one."""
     if not isinstance(thing, tuple) or not all([is_deed(one) for one in thing]):
@@ -98,18 +107,10 @@ def _book_fault(thing):
         return "rising"
     table = table_of(thing)
     for deed in thing:
-        fault = _deed_fault(table, deed)
+        fault = deed_fault(table, deed)
         if fault is not None:
             return fault
     return None
-
-
-def _deed_fault(table, deed):
-    if not is_own(deed):
-        return "own"
-    if not all([_has_first(table, hand, many) for hand, many in knew_of(deed)]):
-        return "lacks"
-    return knowing_fault(table, deed)
 
 
 def _has_first(table, hand, many):

@@ -23,6 +23,11 @@ def what_of(deed):
     return deed[4]
 
 
+def word_of(deed):
+    """The word of the DEED's WHAT."""
+    return deed[4][0]
+
+
 def doc_named(what, key):
     """The document of the DEED of a KEY that does the WHAT."""
     if what[0] == "open":

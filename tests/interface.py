@@ -21,6 +21,15 @@ FUNCTIONS = {
     "letters": ["is_letter(thing)", "lacking(book, version)"],
     "readings": ["read_what(text, *, line=0)", "read_version(text, *, line=0)", "read_deed(text, *, line=0)",
                  "read_book(text)"],
+    "standing": ["reason_of(book, key)", "reasons(book)", "standing(book, *, doc)", "working(book, *, doc)",
+                 "level_of(book, *, doc, hand, ahead=None)"],
+    "undone": ["turn_of(book, key)", "works(book, key)"],
+    "standpapers": ["stand_paper(book, key)"],
+    "standchecker": ["lets_stand(book, key, thing)"],
+    "texts": ["row_of(book, *, doc)", "sign_of(book, name, *, doc)", "hung_on(book, name, *, doc)"],
+    "placechecker": ["lets_place(book, one, other, thing, *, doc)"],
+    "living": ["signs_of(book, *, doc)", "living(book, *, doc)", "shown_text(book, *, doc)",
+               "kept_dead(book, name, *, doc)"],
 }
 
 CLASSES = {
@@ -35,5 +44,10 @@ CLASSES = {
                  "whose(self)", "book(self)", "all_keys(self)", "version(self)", "waiting(self)", "has(self, key)",
                  "deed(self, key)", "write(self, *, to, most=12)", "read(self, letter)", "heard(self, *, of)",
                  "__len__(self)", "__eq__(self, other)"],
+    },
+    "keeping": {
+        "StandingHouse": ["__init__(self)", "take(self, thing)", "take_all(self, things)", "book(self)",
+                          "reason(self, key)", "standing(self, *, doc)", "working(self, *, doc)", "looked(self)",
+                          "has(self, thing)", "__len__(self)", "__eq__(self, other)"],
     },
 }
