@@ -30,6 +30,16 @@ FUNCTIONS = {
     "placechecker": ["lets_place(book, one, other, thing, *, doc)"],
     "living": ["signs_of(book, *, doc)", "living(book, *, doc)", "shown_text(book, *, doc)",
                "kept_dead(book, name, *, doc)"],
+    "placing": ["row_by_skipping(book, *, doc, came=())"],
+    "placepapers": ["place_paper(book, one, other, *, doc)"],
+    "looks": ["looks_on(book, name, *, doc)", "runs(book, *, doc)"],
+    "rows": ["rows_of(book, *, doc)"],
+    "clashes": ["clashes(book, *, doc)", "last_ones(book, row, field, *, doc)"],
+    "trees": ["branches(book, *, doc)", "is_there(book, key, *, doc)", "parent_of(book, key, *, doc)",
+              "idle_moves(book, *, doc)"],
+    "latemoves": ["branches_late(book, *, doc, came=())"],
+    "comments": ["comments(book, *, doc)", "held(book, key)"],
+    "history": ["wrote(book, key)"],
 }
 
 CLASSES = {
