@@ -21,14 +21,19 @@ def comments(book, *, doc):
 
 def held(book, key):
     """What the COMMENT of a KEY, any thing, HOLDS: ("holds" or "was", what, text); or NoKey."""
-    deed = deed_at(book, key)
-    ground = ground_of(deeds_of(book, doc_of(deed)))
-    if word_of(deed) != "say" or not ground.works(key):
-        raise NoKey(key)
+    deed = comment_at(book, key)
     on = what_of(deed)[2]
     if not is_key(on):
         return _held_signs(book, doc_of(deed), on)
-    return _held_thing(book, ground.deed(on))
+    return _held_thing(book, deed_at(book, on))
+
+
+def comment_at(book, key):
+    """The DEED of the COMMENT of a KEY, any thing; or NoKey."""
+    deed = deed_at(book, key)
+    if word_of(deed) != "say" or not ground_of(deeds_of(book, doc_of(deed))).works(key):
+        raise NoKey(key)
+    return deed
 
 
 def _held_signs(book, doc, names):

@@ -94,6 +94,14 @@ class Copy:
         """The VERSION HEARD of a HAND, () of none."""
         return self._heard.get(of, ())
 
+    def twin(self):
+        """Another COPY, that KNOWS, lets WAIT and HEARD the same, and goes on apart."""
+        twin = Copy(self._hand)
+        twin._known = {key: self._known[key] for key in self._known}
+        twin._waits = {key: self._waits[key] for key in self._waits}
+        twin._heard = {hand: self._heard[hand] for hand in self._heard}
+        return twin
+
     def __len__(self):
         return len(self._known)
 

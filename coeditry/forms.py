@@ -29,3 +29,12 @@ INNERS = {
     "put": ("after", "signs"),
     "cut": ("names",),
 }
+
+# The STEPS of a house but "all"; a "word" is a HAND.
+STEPS = {
+    "make": ("word", "what"),
+    "send": ("word", "word"),
+    "come": ("number",),
+    "again": ("number",),
+    "lose": ("number",),
+}

@@ -18,7 +18,7 @@ class Ground:
 
     def look(self, deed):
         """The REASON of the next DEED in ORDER, which is kept where it STANDS."""
-        reason = self._reason(deed)
+        reason = self.reason(deed)
         if reason is None:
             self.add(deed)
         return reason
@@ -37,6 +37,10 @@ class Ground:
             self._ends[what[2]] = deed
         elif word in TURNS:
             self._turns[what[2]] = deed
+
+    def doc_sort(self):
+        """The sort of the document, None where no "open" stands."""
+        return self._sort
 
     def stood(self):
         """The DEEDS that STAND, in ORDER."""
@@ -61,9 +65,13 @@ class Ground:
         turn = self.turn(key)
         return key in self._stood and (turn is None or word_of(turn) == "redo")
 
+    def ending(self, key):
+        """The STANDING "take" or "refuse" of the suggestion of the KEY, None where there is none."""
+        return self._ends.get(key)
+
     def taking(self, key):
         """The STANDING "take" of the suggestion of the KEY, None where there is none."""
-        end = self._ends.get(key)
+        end = self.ending(key)
         if end is None or word_of(end) == "refuse":
             return None
         return end
@@ -72,7 +80,8 @@ class Ground:
         """By which DEED the HAND has its LEVEL, and the LEVEL: (a KEY or None, LEVEL)."""
         return self._rights.get(hand, (None, "none"))
 
-    def _reason(self, deed):
+    def reason(self, deed):
+        """The REASON of the next DEED in ORDER, which is not kept."""
         word = word_of(deed)
         if word == "open":
             return None

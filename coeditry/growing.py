@@ -77,6 +77,15 @@ def tree_of(ground):
     return tree
 
 
+def tree_ahead(ground, deed):
+    """The Tree behind those of these DEEDS that are ahead of the DEED."""
+    tree = Tree()
+    for one in growing_of(ground):
+        if is_ahead(one, deed):
+            tree.do(one)
+    return tree
+
+
 def labels_of(ground):
     """The dict of the LABELS of the nodes whose "node" WORKS."""
     return {key_of(deed): what_of(deed)[3] for deed in ground.working() if word_of(deed) == "node"}

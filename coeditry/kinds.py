@@ -56,6 +56,11 @@ def is_pair(thing):
     return isinstance(thing, tuple) and len(thing) == 2
 
 
+def are_pairs(thing):
+    """Whether a thing is a tuple, perhaps (), of pairs of any things."""
+    return isinstance(thing, tuple) and all([is_pair(one) for one in thing])
+
+
 def is_key(thing):
     """Whether a thing is a KEY."""
     return is_pair(thing) and is_word(thing[0]) and is_number(thing[1])

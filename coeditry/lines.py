@@ -10,7 +10,7 @@ def shown_what(what):
     word = what[0]
     if word == "suggest":
         inner = what[2]
-        words = [word, _shown_key(what[1]), inner[0]] + _shown_things(INNERS[inner[0]], inner[1:])
+        words = [word, shown_key(what[1]), inner[0]] + _shown_things(INNERS[inner[0]], inner[1:])
     else:
         words = [word] + _shown_things(FORMS[word], what[1:])
     return " ".join(words)
@@ -24,12 +24,17 @@ def shown_version(version):
 def shown_deed(deed):
     """The text of the DEED."""
     knew = _shown_shares(knew_of(deed), ",")
-    return " ".join([_shown_key(key_of(deed)), str(count_of(deed)), knew, shown_what(what_of(deed))])
+    return " ".join([shown_key(key_of(deed)), str(count_of(deed)), knew, shown_what(what_of(deed))])
 
 
 def shown_book(book):
     """The text of the BOOK: a line for each DEED."""
     return "\n".join([shown_deed(deed) for deed in book])
+
+
+def shown_key(key):
+    """The one word of the KEY."""
+    return f"{key[0]}.{key[1]}"
 
 
 def _shown_things(kinds, things):
@@ -60,18 +65,14 @@ def _shown_named(thing):
     if thing is None:
         return "-"
     if is_key(thing):
-        return _shown_key(thing)
+        return shown_key(thing)
     if is_name(thing):
         return _shown_name(thing)
     return ",".join([_shown_name(name) for name in thing])
 
 
-def _shown_key(key):
-    return f"{key[0]}.{key[1]}"
-
-
 def _shown_name(name):
-    return f"{_shown_key(name[0])}.{name[1]}"
+    return f"{shown_key(name[0])}.{name[1]}"
 
 
 def _shown_shares(version, between):

@@ -3,7 +3,7 @@
 from coeditry.deeds import key_of, word_of
 from coeditry.fitting import cut_by
 from coeditry.opened import ground_of_text
-from coeditry.places import place_at, places_of, row_from
+from coeditry.places import place_at, places_in, places_of, row_from
 
 
 def signs_of(book, *, doc):
@@ -24,12 +24,28 @@ def shown_text(book, *, doc):
     return "".join([sign for _, sign, lives in signs_of(book, doc=doc) if lives])
 
 
+def nearest_living(signs, name):
+    """The NAME itself where it LIVES, else the nearest one ahead of it that does, None of none; signs as signs_of."""
+    nearest = None
+    for one, _, lives in signs:
+        if lives:
+            nearest = one
+        if one == name:
+            return nearest
+    return None
+
+
 def kept_dead(book, name, *, doc):
     """The KEYS, rising, of all that keep the sign of a NAME, any thing, from living; or NoKey."""
+    place_at(places_in(book, doc), name)
+    return kept_dead_in(book, doc)[name]
+
+
+def kept_dead_in(book, doc):
+    """The dict of the KEYS, rising, of all that keep each sign of the text from living, by NAMES; or NoKey(doc)."""
     ground = ground_of_text(book, doc)
-    places = places_of(ground)
-    place_at(places, name)
-    return tuple(sorted(_keeping_dead(ground, places)[name]))
+    keeping = _keeping_dead(ground, places_of(ground))
+    return {name: tuple(sorted(keeping[name])) for name in keeping}
 
 
 def _keeping_dead(ground, places):

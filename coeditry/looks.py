@@ -13,6 +13,12 @@ def looks_on(book, name, *, doc):
     return _those_on(_turned(ground), name)
 
 
+def looks_in(book, doc):
+    """The dict of the LOOKS, rising, that are ON, by the NAMES of the text that a "look" has; or NoKey(doc)."""
+    turned = _turned(ground_of_text(book, doc))
+    return {name: _those_on(turned, name) for name in turned}
+
+
 def runs(book, *, doc):
     """The SHOWN text as a tuple of (its next signs of one look, their LOOKS, rising); or NoKey(doc)."""
     turned = _turned(ground_of_text(book, doc))

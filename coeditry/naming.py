@@ -4,7 +4,8 @@ from coeditry.deeds import what_of
 from coeditry.forms import FORMS, INNERS
 from coeditry.kinds import is_key
 
-_NAMING = ("key", "after", "parent", "names", "on", "at")
+# The kinds of things that are KEYS, a NAME or NAMES, perhaps None.
+NAMING = ("key", "after", "parent", "names", "on", "at")
 
 
 def things_of(deed):
@@ -21,7 +22,7 @@ def _named(kinds, things):
     """The THINGS among things of these kinds."""
     found = []
     for kind, thing in zip(kinds, things):
-        if kind in _NAMING and thing is not None:
+        if kind in NAMING and thing is not None:
             found.extend(_each(kind, thing))
     return tuple(found)
 

@@ -39,6 +39,14 @@ FUNCTIONS = {
               "idle_moves(book, *, doc)"],
     "latemoves": ["branches_late(book, *, doc, came=())"],
     "comments": ["comments(book, *, doc)", "held(book, key)"],
+    "ringpapers": ["ring_paper(book, key, *, doc)"],
+    "ringchecker": ["lets_ring(book, key, thing, *, doc)"],
+    "deadby": ["dead_by(book, thing, *, doc)"],
+    "holdpapers": ["hold_paper(book, key)"],
+    "suggestions": ["fate_of(book, key)", "suggestions(book, *, doc)"],
+    "beside": ["beside(book, *, doc)"],
+    "marks": ["mark_of(book, hand, *, doc)", "marks(book, *, doc, age=8)"],
+    "sights": ["seen_by(book, *, hand)"],
     "history": ["wrote(book, key)"],
 }
 

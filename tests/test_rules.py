@@ -61,6 +61,20 @@ def is_plain(node):
     return False
 
 
+def is_only_read(node, above):
+    """Whether a list or dict at module level is only asked for an item, gone through, measured or looked into here."""
+    if isinstance(above, ast.Subscript):
+        return above.value is node and isinstance(above.ctx, ast.Load)
+    if isinstance(above, ast.Attribute):
+        return above.attr in ("get", "items", "keys", "values")
+    if isinstance(above, ast.Compare):
+        return True
+    if isinstance(above, (ast.For, ast.comprehension)):
+        return above.iter is node
+    return isinstance(above, ast.Call) and isinstance(above.func, ast.Name) and above.func.id in (
+        "len", "list", "dict", "tuple", "sorted")
+
+
 def imports_of(module):
     return [node for node in TREES[module].body if isinstance(node, ast.ImportFrom)]
 
@@ -254,6 +268,46 @@ class RulesTest(unittest.TestCase):
         for module, node in nodes(ast.ExceptHandler):
             self.assertIsInstance(node.type, ast.Name, module)
             self.assertIn(node.type.id, bound_at_top(module))
+
+    def test_l15_lists_and_dicts_at_module_level_are_only_read(self):
+        held = {}
+        for module in MODULES:
+            for node in TREES[module].body:
+                if isinstance(node, ast.Assign) and isinstance(node.value, (ast.List, ast.Dict)):
+                    held[node.targets[0].id] = module
+        for module in MODULES:
+            above = {child: node for node in ast.walk(TREES[module]) for child in ast.iter_child_nodes(node)}
+            for node in ast.walk(TREES[module]):
+                if isinstance(node, ast.Name) and node.id in held and isinstance(node.ctx, ast.Load):
+                    self.assertTrue(is_only_read(node, above[node]), (module, node.lineno, node.id))
+
+    def test_l26_methods_have_no_names_of_methods_of_builtin_values(self):
+        for module, node in nodes(ast.ClassDef):
+            for one in node.body:
+                if isinstance(one, ast.FunctionDef) and not one.name.startswith("__"):
+                    held = [kind for kind in (str, int, list, dict, set, bytes) if hasattr(kind, one.name)]
+                    self.assertTrue(held == [] or one.name in METHODS, (module, one.name))
+
+    def test_l26_l18_attributes(self):
+        own = {node.name for _, node in functions()}
+        stored = {node.attr for _, node in nodes(ast.Attribute) if isinstance(node.ctx, ast.Store)}
+        for module, node in nodes(ast.ClassDef):
+            methods = {one.name for one in node.body if isinstance(one, ast.FunctionDef)}
+            told = {one.attr for one in ast.walk(node) if isinstance(one, ast.Attribute)
+                    and isinstance(one.ctx, ast.Store)}
+            self.assertEqual(methods & told, set(), (module, node.name))
+        for name in stored:
+            self.assertFalse(any(hasattr(kind, name) for kind in (str, int, list, dict, set, bytes)), name)
+        for module, node in nodes(ast.Attribute):
+            self.assertIn(node.attr, stored | own | METHODS, (module, node.lineno))
+
+    def test_l6_what_a_finally_holds(self):
+        for module, node in nodes(ast.Try):
+            for one in node.finalbody:
+                self.assertIsInstance(one, ast.AugAssign, (module, one.lineno))
+                self.assertIsInstance(one.op, ast.Add)
+                self.assertIsInstance(one.target, ast.Attribute)
+                self.assertIsInstance(one.value, ast.Constant)
 
     def test_nothing_but_comments_and_code_says_why(self):
         for module in MODULES:
