@@ -1,5 +1,7 @@
 """What a BOOK tells of suggestions, marks, views and undoing, once more, by the words of the document."""
 
+import functools
+
 from tests.naive import doc, key, keys_of, knew, make, version
 from tests.plain import LEVELS, Plain, place, things, word
 
@@ -9,6 +11,28 @@ def is_name(thing):
 
 
 class Beyond(Plain):
+    # What is asked again and again is told once.
+
+    @functools.lru_cache(None)
+    def standing(self, of):
+        return Plain.standing(self, of)
+
+    @functools.lru_cache(None)
+    def working(self, of, *words):
+        return Plain.working(self, of, *words)
+
+    @functools.lru_cache(None)
+    def signs(self, of):
+        return Plain.signs(self, of)
+
+    @functools.lru_cache(None)
+    def row(self, of):
+        return Plain.row(self, of)
+
+    @functools.lru_cache(None)
+    def living(self, of):
+        return Plain.living(self, of)
+
     def docs(self):
         return [key(deed) for deed in self.book if word(deed) == "open"]
 

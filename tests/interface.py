@@ -47,6 +47,13 @@ FUNCTIONS = {
     "beside": ["beside(book, *, doc)"],
     "marks": ["mark_of(book, hand, *, doc)", "marks(book, *, doc, age=8)"],
     "sights": ["seen_by(book, *, hand)"],
+    "holdchecker": ["lets_hold(book, key, thing)"],
+    "markpapers": ["mark_paper(book, hand, *, doc)"],
+    "markchecker": ["lets_mark(book, hand, thing, *, doc)"],
+    "views": ["sight(book, key, *, hand, age=8)", "view(book, *, hand, age=8)"],
+    "parting": ["parted(book, *, hand)"],
+    "undoing": ["undoable(book, *, hand)", "redoable(book, *, hand)", "undoing(book, key)", "redoing(book, key)",
+                "effect_of(book, key)"],
     "history": ["wrote(book, key)"],
 }
 
@@ -67,5 +74,18 @@ CLASSES = {
         "StandingHouse": ["__init__(self)", "take(self, thing)", "take_all(self, things)", "book(self)",
                           "reason(self, key)", "standing(self, *, doc)", "working(self, *, doc)", "looked(self)",
                           "has(self, thing)", "__len__(self)", "__eq__(self, other)"],
+    },
+    "finder": {
+        "Finder": ["__init__(self, hand, *, age=8)", "take(self, deed)", "book(self)", "index(self)",
+                   "spots(self, word)", "__len__(self)"],
+    },
+    "house": {
+        "House": ["__init__(self, hands)", "step(self, thing)", "run(self, steps, *, most=200)",
+                  "back(self, *, times=1)", "steps(self)", "letters(self)", "book(self, hand)", "waiting(self, hand)",
+                  "view(self, hand, *, age=8)", "spots(self, hand, word)", "has(self, thing)", "hands(self)",
+                  "counts(self)", "__len__(self)", "__str__(self)", "__eq__(self, other)"],
+    },
+    "desk": {
+        "Desk": ["__init__(self)", "say(self, row)", "counts(self)"],
     },
 }
